@@ -197,6 +197,47 @@ class TestLanguage(unittest.TestCase):
                 if name in WALKED_AT_ONCE + ("items", "keys", "values"):
                     self.assertIn(node, fine, ast.unparse(node))
 
+    def test_keywords(self):
+        allowed = {"sorted": ("key", "reverse"), "min": ("key", "default"), "max": ("key", "default"), "sum": ("start",),
+                   "enumerate": ("start",), "zip": ("strict",)}
+        for path, text, tree in self.each():
+            for node in nodes(tree, ast.Call):
+                for keyword in node.keywords:
+                    self.assertIn(keyword.arg, allowed.get(getattr(node.func, "id", ""), ()), ast.unparse(node))
+
+    def test_errors(self):
+        for path, text, tree in self.each():
+            for node in nodes(tree, ast.ExceptHandler):
+                self.assertIsInstance(node.type, ast.Name)
+                self.assertIn(node.type.id, ("KeyError", "ZeroDivisionError", "StopIteration", "KindError", "NoJoin",
+                                             "NoKind", "NoName", "Stuck"))
+            for node in nodes(tree, ast.Raise):
+                self.assertIsInstance(node.exc, ast.Call)
+
+    def test_no_sets_and_no_powers(self):
+        for path, text, tree in self.each():
+            self.assertEqual(nodes(tree, ast.Set, ast.Pow), [])
+            self.assertEqual([node for node in nodes(tree, ast.Name) if node.id in ("set", "frozenset")], [])
+
+    def test_names_of_the_top_are_bound_once_and_only_read(self):
+        for path, text, tree in self.each():
+            bound = [node.targets[0].id for node in tree.body if isinstance(node, ast.Assign)]
+            bound += [node.name for node in tree.body if isinstance(node, (ast.FunctionDef, ast.ClassDef))]
+            bound += [alias.name for node in nodes(tree, ast.ImportFrom) for alias in node.names]
+            self.assertEqual(len(bound), len(set(bound)))
+            plain = [node.targets[0].id for node in tree.body if isinstance(node, ast.Assign)]
+            read = [node.value for node in nodes(tree, ast.Subscript, ast.Attribute) if isinstance(node.ctx, ast.Load)]
+            read += [right for node in nodes(tree, ast.Compare) for right in node.comparators]
+            for node in nodes(tree, ast.Name):
+                if node.id in plain and isinstance(node.ctx, ast.Load):
+                    self.assertIn(node, read, node.id)
+
+    def test_methods_stand_once(self):
+        for path, text, tree in self.each():
+            for each in nodes(tree, ast.ClassDef):
+                names = [node.name for node in each.body if isinstance(node, ast.FunctionDef)]
+                self.assertEqual(len(names), len(set(names)))
+
 
 if __name__ == "__main__":
     unittest.main()

@@ -2,7 +2,9 @@
 
 import unittest
 
-from kindspan.trees import first_missing_name, parts_with_names, with_parts
+from kindspan.trees import (
+    first_missing_name, first_places, missing_names, parts_with_names, put_in, with_part, with_parts,
+)
 
 A = ("name", "a")
 B = ("name", "b")
@@ -47,6 +49,52 @@ class TestParts(unittest.TestCase):
         parts = [ONE, C]
         self.assertEqual(with_parts(tree, parts), ("pair", ONE, C))
         self.assertEqual((tree, parts), (("pair", A, B), [ONE, C]))
+
+
+    def test_with_part(self):
+        self.assertEqual(with_part(("pair", A, B), 1, C), ("pair", C, B))
+        self.assertEqual(with_part(("pair", A, B), 2, C), ("pair", A, C))
+        self.assertEqual(with_part(("op", "plus", A, B), 3, C), ("op", "plus", A, C))
+
+    def test_parts_that_must_be_values_first(self):
+        both = ("call", "op", "pair", "link")
+        one = ("let", "when", "open", "split")
+        for tree, parts in SORTS:
+            firsts = [tree[place] for place in first_places(tree)]
+            count = 2 if tree[0] in both else 1 if tree[0] in one else 0
+            self.assertEqual(firsts, [part for part, names in parts][:count], tree)
+
+
+class TestPutIn(unittest.TestCase):
+    def test_each_sort(self):
+        for tree, parts in SORTS:
+            if tree[0] != "name":
+                told = [C if part == C else ONE if part == A else ("empty",) for part, names in parts]
+                self.assertEqual(put_in(tree, {"a": ONE, "b": ("empty",), "n": C, "m": C}), with_parts(tree, told))
+
+    def test_names(self):
+        self.assertEqual(put_in(A, {"a": ONE}), ONE)
+        self.assertEqual(put_in(A, {"b": ONE}), A)
+        self.assertEqual(put_in(A, {}), A)
+
+    def test_given_anew_within(self):
+        told = {"a": ONE, "b": ("number", 2)}
+        self.assertEqual(put_in(("fun", "a", ("pair", A, B)), told), ("fun", "a", ("pair", A, ("number", 2))))
+        self.assertEqual(put_in(("rec", "a", "b", ("pair", A, B)), told), ("rec", "a", "b", ("pair", A, B)))
+        self.assertEqual(put_in(("let", "a", A, A), told), ("let", "a", ONE, A))
+        self.assertEqual(put_in(("open", B, "c", "b", ("pair", A, B)), told),
+                         ("open", ("number", 2), "c", "b", ("pair", ONE, B)))
+        self.assertEqual(put_in(("split", A, B, "a", "c", ("pair", A, B)), told),
+                         ("split", ONE, ("number", 2), "a", "c", ("pair", A, ("number", 2))))
+        self.assertEqual(told, {"a": ONE, "b": ("number", 2)})
+
+
+class TestMissingNames(unittest.TestCase):
+    def test_from_the_left_as_often_as_they_stand(self):
+        self.assertEqual(missing_names(ONE), [])
+        self.assertEqual(missing_names(("pair", ("pair", B, A), B)), ["b", "a", "b"])
+        self.assertEqual(missing_names(("let", "a", A, ("pair", A, C))), ["a", "c"])
+        self.assertEqual(missing_names(("fun", "a", ("pair", A, ("fun", "b", ("pair", A, C))))), ["c"])
 
 
 class TestFirstMissingName(unittest.TestCase):
